@@ -1,0 +1,1 @@
+"""Quietsums: what groups learn when parties send sums to each other."""
