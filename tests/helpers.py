@@ -1,7 +1,9 @@
-"""What the tests share: calls that must fail, and values of other kinds."""
+"""What the tests share: calls that must fail, values of other kinds, and plans with a plain model of them."""
 
 from itertools import product
+from random import Random
 
+from quietsums.plans import Plan
 from quietsums.sums import Sum
 
 MODULI = (2, 3, 5, 7, 11, 13)
@@ -42,3 +44,81 @@ def world_list(modulus, names):
 def random_sum(chance, modulus, names, constant=True):
     weights = {name: chance.randrange(modulus) for name in names if chance.random() < 0.7}
     return Sum(modulus, weights, chance.randrange(modulus) if constant else 0)
+
+
+def holdings(hands, steps):
+    """Return for each moment a dict from the hands to the sets of what they hold, by the table of the document."""
+    now = {hand: set() for hand in hands}
+    found = [{hand: set(names) for hand, names in now.items()}]
+    for step in steps:
+        kind, hand = step[0], step[1]
+        if kind in ("own", "draw", "make"):
+            now[hand].add(step[2])
+        elif kind == "send":
+            now[step[2]].add(step[3])
+        elif kind == "tell":
+            for other in hands:
+                now[other].add(step[2])
+        elif kind == "drop":
+            now[hand].remove(step[2])
+        found.append({other: set(names) for other, names in now.items()})
+    return found
+
+
+def values(plan, world):
+    """Return the numbers of all names, computed step by step."""
+    found = {}
+    for step in plan.steps():
+        if step[0] in ("own", "draw"):
+            found[step[2]] = world[step[2]]
+        elif step[0] == "make":
+            found[step[2]] = step[3].at(found)
+    return found
+
+
+def random_plan(seed, most_base=5, length=14):
+    """Return a plan with steps of all kinds that the seed decides."""
+    chance = Random(seed)
+    modulus = chance.choice((2, 3))
+    hands = ["b", "a", "x1", "d"][:chance.randrange(1, 5)]
+    steps = []
+    base = 0
+    while len(steps) < length:
+        held = holdings(hands, steps)[-1]
+        told = [step[2] for step in steps if step[0] == "tell"]
+        owned = [step[2] for step in steps if step[0] == "own"]
+        hand = chance.choice(hands)
+        has = sorted(held[hand])
+        kind = chance.choice(("own", "draw", "make", "make", "send", "send", "send", "tell", "drop", "want"))
+        new = chance.choice("xyzrst") + str(len(steps))
+        if kind in ("own", "draw") and base < most_base:
+            base += 1
+            steps.append((kind, hand, new))
+        elif kind == "make":
+            steps.append((kind, hand, new, random_sum(chance, modulus, has)))
+        elif kind == "send" and has and len(hands) > 1:
+            others = [other for other in hands if other != hand]
+            steps.append((kind, hand, chance.choice(others), chance.choice(has)))
+        elif kind == "tell" and set(has) - set(told) and chance.random() < 0.3:
+            steps.append((kind, hand, chance.choice(sorted(set(has) - set(told)))))
+        elif kind == "drop" and has and chance.random() < 0.5:
+            steps.append((kind, hand, chance.choice(has)))
+        elif kind == "want" and has:
+            steps.append((kind, hand, chance.choice(has), random_sum(chance, modulus, owned)))
+    return Plan(modulus, hands, steps)
+
+
+def random_watch(chance, plan, most=3):
+    """Return some seats of a plan."""
+    seats = []
+    for _ in range(chance.randrange(most + 1)):
+        begin = chance.randrange(len(plan) + 1)
+        seats.append((chance.choice(plan.hands()), begin, chance.randrange(begin, len(plan) + 1)))
+    return seats
+
+
+def example_plan():
+    """Return the plan of the document: `a` owns x, draws r, and sends s = x + 4 r to `b`."""
+    total = Sum.of(5, x=1, r=4)
+    steps = [("own", "a", "x"), ("draw", "a", "r"), ("make", "a", "s", total), ("send", "a", "b", "s")]
+    return Plan(5, ["a", "b"], steps)

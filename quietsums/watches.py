@@ -1,0 +1,128 @@
+"""Watches: what some seats hear together, and which sums of private numbers they learn."""
+
+from quietsums.checks import is_integer, is_known, is_list, is_shift, is_world
+from quietsums.errors import InvalidWatch, InvalidWorld, MissingNumber, UnknownName
+from quietsums.shifts import combination, is_separation, separation
+from quietsums.spaces import Space
+from quietsums.sums import require_sum
+
+
+def heard(plan, watch):
+    """Return the sorted list of the names that a watch hears."""
+    require_watch(plan, watch)
+    return sorted({name for seat in watch for name in plan.held_within(seat[0], seat[1], seat[2])}
+                  | set(plan.told_names()))
+
+
+def view(plan, watch):
+    """Return the space that the meanings of the heard names span."""
+    return Space(plan.modulus, [plan.meaning(name) for name in heard(plan, watch)])
+
+
+def learned(plan, watch):
+    """Return the space of the sums of private numbers that a watch learns."""
+    return view(plan, watch).without(plan.drawn_names())
+
+
+def learns(plan, watch, target):
+    """Tell whether a watch learns a sum of private numbers."""
+    require_watch(plan, watch)
+    require_private(plan, target)
+    return target in view(plan, watch)
+
+
+def reason(plan, watch, target):
+    """Return multiples of heard names that leave a constant of the target, or None."""
+    require_watch(plan, watch)
+    require_private(plan, target)
+    if target.is_constant:
+        return {}
+    names = heard(plan, watch)
+    if len(names) == 0:
+        return None
+    numbers = combination([plan.meaning(name) for name in names], target)
+    if numbers is None:
+        return None
+    return {name: number for name, number in zip(names, numbers) if number != 0}
+
+
+def hiding_shift(plan, watch, target):
+    """Return a shift of base names that moves the target and nothing that is heard, or None."""
+    require_watch(plan, watch)
+    require_private(plan, target)
+    return separation(view(plan, watch), target)
+
+
+def is_reason(plan, watch, target, value):
+    """Tell whether a value is a reason why a watch learns the target."""
+    require_watch(plan, watch)
+    require_private(plan, target)
+    if not is_shift(plan.modulus, value):
+        return False
+    names = heard(plan, watch)
+    if not all([name in names for name in value]):
+        return False
+    rest = target
+    for name, number in value.items():
+        rest = rest - plan.meaning(name) * number
+    return rest.is_constant
+
+
+def is_hiding_shift(plan, watch, target, value):
+    """Tell whether a value is a shift of base names that hides the target from a watch."""
+    require_watch(plan, watch)
+    require_private(plan, target)
+    return is_base_shift(plan, value) and is_separation(view(plan, watch), target, value)
+
+
+def same_frequencies(plan, watch, numbers, others):
+    """Tell whether a watch observes the same, equally often, for two assignments of private numbers."""
+    require_watch(plan, watch)
+    _require_private_numbers(plan, numbers)
+    _require_private_numbers(plan, others)
+    return all([total.at(numbers) == total.at(others) for total in learned(plan, watch).basis()])
+
+
+def is_base_shift(plan, value):
+    """Tell whether a value is a shift of private numbers and drawn names of a plan."""
+    if not is_shift(plan.modulus, value):
+        return False
+    names = plan.own_names() + plan.drawn_names()
+    return all([name in names for name in value])
+
+
+def require_watch(plan, watch):
+    """Raise InvalidWatch unless the value is a list of seats of the plan."""
+    if not is_list(watch):
+        raise InvalidWatch(None)
+    hands = plan.hands()
+    for position, seat in enumerate(watch):
+        if not _is_seat(hands, len(plan), seat):
+            raise InvalidWatch(position)
+
+
+def require_private(plan, target):
+    """Raise an error unless the target is a sum of private numbers of the plan."""
+    require_sum(plan.modulus, target)
+    names = plan.own_names()
+    for name in target.names():
+        if name not in names:
+            raise UnknownName(name)
+
+
+def _is_seat(hands, last, value):
+    """Tell whether a value is a seat of one of the hands, up to the last moment."""
+    if not isinstance(value, tuple) or len(value) != 3 or not is_known(value[0], hands):
+        return False
+    if not is_integer(value[1]) or not is_integer(value[2]):
+        return False
+    return 0 <= value[1] <= value[2] <= last
+
+
+def _require_private_numbers(plan, numbers):
+    """Raise an error unless the value is a world for all private numbers of the plan."""
+    if not is_world(plan.modulus, numbers):
+        raise InvalidWorld(numbers)
+    for name in plan.own_names():
+        if name not in numbers:
+            raise MissingNumber(name)
