@@ -1,6 +1,6 @@
 """Questions about plain values: integers, numbers, names, worlds, shifts, hands and groups."""
 
-from quietsums.errors import InvalidHands, InvalidModulus, InvalidNames
+from quietsums.errors import InvalidGroup, InvalidHands, InvalidModulus, InvalidNames
 
 PRIMES = (2, 3, 5, 7, 11, 13)
 LETTERS = "abcdefghijklmnopqrstuvwxyz"
@@ -53,6 +53,17 @@ def is_group(value, hands):
     if not is_list(value) or not all([is_known(hand, hands) for hand in value]):
         return False
     return len(set(value)) == len(value)
+
+
+def is_tuple_of(value, length):
+    """Tell whether a value is a tuple of this length."""
+    return isinstance(value, tuple) and len(value) == length
+
+
+def require_group(group, hands):
+    """Raise InvalidGroup unless the value is a list of different ones of some hands."""
+    if not is_group(group, hands):
+        raise InvalidGroup(group)
 
 
 def require_modulus(value):

@@ -1,4 +1,4 @@
-"""All ways to pick some of a few things."""
+"""All ways to pick some of a few things; groups of hands in their order."""
 
 
 def picked(items, many):
@@ -11,3 +11,8 @@ def picked(items, many):
 def all_groups(hands):
     """Return the list of all groups of some hands, as sorted tuples, in the order of groups."""
     return [group for size in range(len(hands) + 1) for group in picked(sorted(hands), size)]
+
+
+def is_part(items, greater):
+    """Tell whether all of the items are among the greater ones."""
+    return all([item in greater for item in items])

@@ -40,6 +40,11 @@ def echelon(modulus, rows):
     return {lead: found[lead] for lead in sorted(found)}
 
 
+def marked(row, names):
+    """Return the row in which the keys that are among some names stand in front of all others."""
+    return {(FRONT + key if key in names else key): weight for key, weight in row.items()}
+
+
 def rows_behind(modulus, rows):
     """Return a basis of those rows that the rows span and that have no key in front of the names."""
     found = echelon(modulus, rows)
@@ -49,24 +54,22 @@ def rows_behind(modulus, rows):
 def rows_without(modulus, rows, names):
     """Return a basis of those rows that the rows span and that have none of the names."""
     barred = {name: True for name in names}
-    marked = [{(FRONT + key if key in barred else key): weight for key, weight in row.items()} for row in rows]
-    return rows_behind(modulus, marked)
+    return rows_behind(modulus, [marked(row, barred) for row in rows])
 
 
 def rows_shared(modulus, rows, others):
     """Return a basis of what both lists of rows span."""
     # A row stands twice in each combination of the first list. If some rows of the second list
     # cancel its front copy, its other copy is in both spans.
-    fronts = [{FRONT + key: weight for key, weight in row.items()} for row in rows]
-    doubled = [{**row, **front} for row, front in zip(rows, fronts)]
-    single = [{FRONT + key: weight for key, weight in row.items()} for row in others]
+    doubled = [{**row, **marked(row, row)} for row in rows]
+    single = [marked(row, row) for row in others]
     return rows_behind(modulus, doubled + single)
 
 
 def multiples(modulus, rows, target):
     """Return a list of numbers so that these multiples of the rows add up to the target, or None."""
-    marked = [{**row, BACK + str(at): 1} for at, row in enumerate(rows)]
-    rest = cleared(modulus, target, echelon(modulus, marked))
+    numbered = [{**row, BACK + str(at): 1} for at, row in enumerate(rows)]
+    rest = cleared(modulus, target, echelon(modulus, numbered))
     if not all([key.startswith(BACK) for key in rest]):
         return None
     return [-rest.get(BACK + str(at), 0) % modulus for at in range(len(rows))]

@@ -25,6 +25,27 @@ def is_combination(sums, target, value):
     return rest.is_constant
 
 
+def named_combination(named, target):
+    """Return a dict from some names of a dict of sums to numbers other than 0, a combination, or None."""
+    names = sorted(named)
+    if len(names) == 0:
+        return {} if target.is_constant else None
+    numbers = combination([named[name] for name in names], target)
+    if numbers is None:
+        return None
+    return {name: number for name, number in zip(names, numbers) if number != 0}
+
+
+def is_named_combination(named, target, value):
+    """Tell whether a value is such a dict, of which the multiples leave a constant of the target."""
+    if not is_shift(target.modulus, value) or not all([name in named for name in value]):
+        return False
+    rest = target
+    for name, number in value.items():
+        rest = rest - named[name] * number
+    return rest.is_constant
+
+
 def separation(space, target):
     """Return a shift that moves the target and no sum of the space, or None."""
     rest = space.reduced(target)

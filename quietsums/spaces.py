@@ -145,7 +145,7 @@ class Relations(Spanned):
     def reduced(self, target):
         """Return the target plus a sum of the relations, without leading names."""
         require_sum(self._modulus, target)
-        return _sum_of_row(self._modulus, cleared(self._modulus, _full_row(target), self._rows))
+        return sum_of_row(self._modulus, cleared(self._modulus, _full_row(target), self._rows))
 
     def joined(self, other):
         """Return the relations that both span."""
@@ -188,7 +188,7 @@ def _full_row(total):
     return {**total.weights(), CONSTANT: total.constant}
 
 
-def _sum_of_row(modulus, row):
+def sum_of_row(modulus, row):
     """Return the sum with this row."""
     weights = {key: weight for key, weight in row.items() if key != CONSTANT}
     return Sum(modulus, weights, row.get(CONSTANT, 0))
@@ -196,4 +196,4 @@ def _sum_of_row(modulus, row):
 
 def _sums_of_rows(modulus, rows):
     """Return the list of the sums with these rows."""
-    return [_sum_of_row(modulus, row) for row in rows]
+    return [sum_of_row(modulus, row) for row in rows]

@@ -2,7 +2,7 @@
 
 from quietsums.checks import is_integer, is_list, is_name, is_number, is_world, require_modulus
 from quietsums.errors import InvalidNumber, InvalidSum, InvalidSums, InvalidText, InvalidWeights
-from quietsums.errors import InvalidWorld, MissingNumber, OtherModulus
+from quietsums.errors import InvalidWorld, MissingNumber, OtherModulus, UnknownName
 
 
 class Sum:
@@ -127,6 +127,19 @@ def require_sum(modulus, value):
     """Raise InvalidSum unless the value is a Sum of the modulus."""
     if not is_sum(modulus, value):
         raise InvalidSum(value)
+
+
+def is_sum_of(modulus, value, names):
+    """Tell whether a value is a Sum of the modulus that contains only some names."""
+    return is_sum(modulus, value) and all([name in names for name in value.names()])
+
+
+def require_sum_of(modulus, value, names):
+    """Raise an error unless the value is a Sum of the modulus that contains only some names."""
+    require_sum(modulus, value)
+    for name in value.names():
+        if name not in names:
+            raise UnknownName(name)
 
 
 def require_sums(modulus, sums):

@@ -1,10 +1,10 @@
 """Watches: what some seats hear together, and which sums of private numbers they learn."""
 
 from quietsums.checks import is_integer, is_known, is_list, is_shift, is_world
-from quietsums.errors import InvalidWatch, InvalidWorld, MissingNumber, UnknownName
-from quietsums.shifts import combination, is_separation, separation
+from quietsums.errors import InvalidWatch, InvalidWorld, MissingNumber
+from quietsums.shifts import is_named_combination, is_separation, named_combination, separation
 from quietsums.spaces import Space
-from quietsums.sums import require_sum
+from quietsums.sums import require_sum_of
 
 
 def heard(plan, watch):
@@ -16,7 +16,7 @@ def heard(plan, watch):
 
 def view(plan, watch):
     """Return the space that the meanings of the heard names span."""
-    return Space(plan.modulus, [plan.meaning(name) for name in heard(plan, watch)])
+    return Space(plan.modulus, list(_heard_sums(plan, watch).values()))
 
 
 def learned(plan, watch):
@@ -35,15 +35,7 @@ def reason(plan, watch, target):
     """Return multiples of heard names that leave a constant of the target, or None."""
     require_watch(plan, watch)
     require_private(plan, target)
-    if target.is_constant:
-        return {}
-    names = heard(plan, watch)
-    if len(names) == 0:
-        return None
-    numbers = combination([plan.meaning(name) for name in names], target)
-    if numbers is None:
-        return None
-    return {name: number for name, number in zip(names, numbers) if number != 0}
+    return named_combination(_heard_sums(plan, watch), target)
 
 
 def hiding_shift(plan, watch, target):
@@ -57,15 +49,7 @@ def is_reason(plan, watch, target, value):
     """Tell whether a value is a reason why a watch learns the target."""
     require_watch(plan, watch)
     require_private(plan, target)
-    if not is_shift(plan.modulus, value):
-        return False
-    names = heard(plan, watch)
-    if not all([name in names for name in value]):
-        return False
-    rest = target
-    for name, number in value.items():
-        rest = rest - plan.meaning(name) * number
-    return rest.is_constant
+    return is_named_combination(_heard_sums(plan, watch), target, value)
 
 
 def is_hiding_shift(plan, watch, target, value):
@@ -103,11 +87,12 @@ def require_watch(plan, watch):
 
 def require_private(plan, target):
     """Raise an error unless the target is a sum of private numbers of the plan."""
-    require_sum(plan.modulus, target)
-    names = plan.own_names()
-    for name in target.names():
-        if name not in names:
-            raise UnknownName(name)
+    require_sum_of(plan.modulus, target, plan.own_names())
+
+
+def _heard_sums(plan, watch):
+    """Return a dict from the heard names to their meanings."""
+    return {name: plan.meaning(name) for name in heard(plan, watch)}
 
 
 def _is_seat(hands, last, value):

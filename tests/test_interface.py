@@ -15,6 +15,17 @@ FUNCTIONS = {
     "groups": {"listening": "plan group", "least_groups": "plan target", "blind_groups": "plan target"},
     "covers": {"fewest_seats": "plan seats target", "cover": "plan seats target many",
                "is_cover": "plan seats target many value"},
+    "books": {"first_leak": "plan book", "is_quiet": "plan book"},
+    "trimming": {"needless_steps": "plan", "trimmed": "plan", "needless_draws": "plan book", "lean": "plan book"},
+    "around": {"form_of": "part", "known_reason": "part group target", "known_shift": "part group target",
+               "is_known_reason": "part group target value", "is_known_shift": "part group target value",
+               "difference": "one other", "is_difference": "one other value", "may_stand": "one other bad good",
+               "parting": "part other", "is_parting": "part other value", "hearing": "part group target",
+               "using": "part target", "joined": "one other"},
+    "gaining": {"gains": "ladder group", "either": "one other", "both": "one other"},
+    "demands": {"least_ladder": "demands", "fulfils": "ladder demands"},
+    "bars": {"bar": "demands group target", "is_bar": "demands group target value", "first_barred": "demands secrets",
+             "cores": "demands group target", "keeping_sets": "demands secrets", "implied": "demands"},
 }
 SPACE_METHODS = {"__init__": "self modulus sums", "basis": "self", "names": "self", "reduced": "self target",
                  "joined": "self other", "shared": "self other", "within": "self other", "without": "self names",
@@ -30,9 +41,22 @@ CLASSES = {
                         "own_names": "self", "drawn_names": "self", "told_names": "self", "meaning": "self name",
                         "held": "self hand moment", "holders": "self name moment", "extended": "self steps",
                         "__len__": None, "__eq__": None, "__repr__": None},
+    ("doors", "Doors"): {"__init__": "self modulus hands ins outs", "hands": "self", "ins": "self", "outs": "self",
+                         "names": "self", "holders": "self name", "held": "self group", "groups": "self",
+                         "__contains__": None, "__eq__": None, "__repr__": None},
+    ("parts", "Part"): {"__init__": "self doors steps", "steps": "self", "names": "self", "meaning": "self name",
+                        "held": "self hand moment", "told_names": "self", "seen": "self group",
+                        "placed": "self hands ahead behind", "moments": "self hands ahead", "__len__": None,
+                        "__eq__": None},
+    ("ladders", "Ladder"): {"__init__": "self doors relations spaces", "space": "self group", "walk": "self",
+                            "as_one": "self hands name", "__eq__": None, "__repr__": None},
+    ("demands", "Demands"): {"__init__": "self doors relations must", "always": "self", "must": "self",
+                             "and_also": "self must", "of": "cls ladder", "__eq__": None},
 }
 PROPERTIES = {("sums", "Sum"): "modulus constant is_constant", ("spaces", "Space"): "modulus dimension",
-              ("spaces", "Relations"): "modulus dimension", ("plans", "Plan"): "modulus"}
+              ("spaces", "Relations"): "modulus dimension", ("plans", "Plan"): "modulus",
+              ("doors", "Doors"): "modulus", ("parts", "Part"): "doors", ("ladders", "Ladder"): "doors relations",
+              ("demands", "Demands"): "doors"}
 
 
 def parameters(function):

@@ -15,11 +15,11 @@ DUNDERS = set("""__init__ __eq__ __repr__ __str__ __len__ __add__ __sub__ __mul_
 DECORATORS = ("property", "classmethod", "staticmethod")
 BARRED = set("""register mro elements open input law version_info with_traceback add_note type typing enum Enum Flag
 Generic Protocol ABC eval exec compile globals locals vars dir id help _record _cold""".split())
-STATEMENTS = (ast.Assign, ast.AugAssign, ast.If, ast.While, ast.For, ast.Return, ast.Break, ast.Continue, ast.Pass,
+STATEMENTS = (ast.Assign, ast.AugAssign, ast.Try, ast.If, ast.While, ast.For, ast.Return, ast.Break, ast.Continue, ast.Pass,
               ast.Raise, ast.Expr, ast.FunctionDef, ast.ClassDef, ast.ImportFrom)
 SIMPLE = (ast.Constant, ast.Tuple, ast.List, ast.Dict)
 # What neither the rules nor this program need: each of them is allowed in narrow cases only.
-ABSENT = (ast.GeneratorExp, ast.Lambda, ast.NamedExpr, ast.Await, ast.Yield, ast.YieldFrom, ast.Div, ast.MatMult,
+ABSENT = (ast.GeneratorExp, ast.Lambda, ast.NamedExpr, ast.Await, ast.YieldFrom, ast.Div, ast.MatMult,
           ast.Pow)
 AT_ONCE = ("zip", "enumerate", "reversed", "items", "keys", "values")
 
@@ -107,6 +107,7 @@ class Language(unittest.TestCase):
         for name, node in self.functions:
             if node.name.startswith("__"):
                 self.assertIn(node.name, DUNDERS, name)
+                self.assertFalse(any(isinstance(inner, ast.Yield) for inner in ast.walk(node)), name)
             for decorator in node.decorator_list:
                 self.assertIn(decorator.id, DECORATORS, name)
 
@@ -129,6 +130,23 @@ class Language(unittest.TestCase):
             if isinstance(node, ast.arg):
                 self.assertIsNone(node.annotation)
 
+    def test_errors_that_are_caught_are_own_ones(self):
+        for name, node in self.nodes:
+            if isinstance(node, ast.Try):
+                self.assertEqual([node.finalbody, len(node.handlers)], [[], 1], (name, node.lineno))
+                caught = node.handlers[0].type
+                for error in caught.elts if isinstance(caught, ast.Tuple) else [caught]:
+                    self.assertIn(error.id, self.own, (name, node.lineno))
+
+    def test_generators_are_iterated_at_once(self):
+        names = {node.name for _, node in self.functions if any(isinstance(inner, ast.Yield) for inner in ast.walk(node))}
+        self.assertEqual(sorted(node.name for _, node in self.functions if node.name in names), sorted(names))
+        for name, tree in self.trees.items():
+            iterated = [node.iter for node in ast.walk(tree) if isinstance(node, (ast.For, ast.comprehension))]
+            for node in ast.walk(tree):
+                if called_name(node) in names:
+                    self.assertIn(node, iterated, (name, node.lineno))
+
     def test_calls(self):
         imported = {item.name for _, node in self.nodes if isinstance(node, ast.ImportFrom) for item in node.names}
         for name, node in self.nodes:
@@ -138,6 +156,21 @@ class Language(unittest.TestCase):
                     self.assertNotIsInstance(node.args[0], ast.GeneratorExp)
             elif isinstance(node, ast.Call):
                 self.assertIn(node.func.attr, METHODS | self.own, (name, node.lineno))
+
+    def test_stars(self):
+        for name, node in self.nodes:
+            if isinstance(node, ast.Call):
+                for item in node.args:
+                    if isinstance(item, ast.Starred):
+                        self.assertIsInstance(item.value, (ast.Name, ast.Attribute), (name, node.lineno))
+
+    def test_files_import_in_one_direction(self):
+        below = {name[:-3]: {node.module.split(".")[1] for node in tree.body if isinstance(node, ast.ImportFrom)}
+                 for name, tree in self.trees.items()}
+        while below:
+            free = [name for name, others in below.items() if not others & set(below)]
+            self.assertNotEqual(free, [], below)
+            below = {name: others for name, others in below.items() if name not in free}
 
     def test_names(self):
         for name, tree in self.trees.items():

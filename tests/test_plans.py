@@ -87,8 +87,8 @@ class Creating(unittest.TestCase):
         steps.append(("drop", "a", "x"))
         for call in (plan.hands, plan.steps, plan.names, plan.own_names, plan.drawn_names, plan.told_names,
                      lambda: plan.held("a", 1), lambda: plan.holders("x", 2)):
-            before = call()
-            self.assertIs(type(before), list)
+            before = list(call())
+            self.assertIs(type(call()), list)
             call().append("more")
             self.assertEqual(call(), before)
         self.assertEqual(plan, Plan(5, ["a", "b"], steps[:2]))
