@@ -81,9 +81,9 @@ def require_names(names):
             raise InvalidNames(position)
 
 
-def require_hands(hands, most):
-    """Raise InvalidHands unless the value is a list of 1 to so many different hands."""
-    if not is_list(hands) or not 1 <= len(hands) <= most:
+def require_hands(hands, most, least=1):
+    """Raise InvalidHands unless the value is a list of different hands that is neither too long nor too short."""
+    if not is_list(hands) or not least <= len(hands) <= most:
         raise InvalidHands(None)
     for position, hand in enumerate(hands):
         if not is_name(hand) or hand in hands[:position]:

@@ -2,6 +2,7 @@
 
 from random import Random
 
+from quietsums.deals import Deal
 from quietsums.demands import Demands, least_ladder
 from quietsums.doors import Doors
 from quietsums.errors import Contradiction, TiedIns
@@ -157,3 +158,23 @@ def passed_on():
     plain = Part(doors, [("make", "a", "y", Sum.of(3, x=1))])
     masked = Part(doors, [("draw", "a", "r"), ("tell", "a", "r"), ("make", "a", "y", Sum.of(3, x=1, r=1))])
     return plain, masked
+
+
+def random_deal(seed, doors=None, most_drawn=2):
+    """Return a deal with drawn names, and with numbers that are handed to hands and told ones."""
+    chance = Random(seed)
+    doors = doors or random_doors(chance)
+    drawn = [f"d{at}" for at in range(chance.randrange(most_drawn + 1))]
+    bases = doors.ins() + drawn
+    numbers = []
+    for name in chance.sample(doors.outs(), len(doors.outs())):
+        total = random_sum(chance, doors.modulus, bases)
+        # Some are handed to others as well, twice, or told.
+        more = [hand for hand in [*doors.hands(), None] if chance.random() < 0.15]
+        numbers += [(name, hand, total) for hand in doors.holders(name) + more]
+    for at in range(chance.randrange(4)):
+        total = random_sum(chance, doors.modulus, bases)
+        takers = chance.sample([*doors.hands(), None], chance.randrange(1, 3) if len(doors.hands()) > 1 else 1)
+        numbers += [(f"n{at}", hand, total) for hand in takers]
+    chance.shuffle(numbers)
+    return Deal(doors, drawn, numbers)

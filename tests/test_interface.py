@@ -26,6 +26,8 @@ FUNCTIONS = {
     "demands": {"least_ladder": "demands", "fulfils": "ladder demands"},
     "bars": {"bar": "demands group target", "is_bar": "demands group target value", "first_barred": "demands secrets",
              "cores": "demands group target", "keeping_sets": "demands secrets", "implied": "demands"},
+    "making": {"size_of": "ladder", "dealt": "ladder", "made_from": "deal", "part_for": "ladder"},
+    "drawers": {"drawing_bar": "ladder group", "made_by": "ladder group", "least_drawers": "ladder"},
 }
 SPACE_METHODS = {"__init__": "self modulus sums", "basis": "self", "names": "self", "reduced": "self target",
                  "joined": "self other", "shared": "self other", "within": "self other", "without": "self names",
@@ -52,11 +54,18 @@ CLASSES = {
                             "as_one": "self hands name", "__eq__": None, "__repr__": None},
     ("demands", "Demands"): {"__init__": "self doors relations must", "always": "self", "must": "self",
                              "and_also": "self must", "of": "cls ladder", "__eq__": None},
+    ("deals", "Deal"): {"__init__": "self doors drawn numbers", "drawn": "self", "numbers": "self", "form": "self",
+                        "__eq__": None},
+    ("histories", "History"): {"__init__": "self modulus hands", "hands": "self", "names": "self", "own_names": "self",
+                               "held": "self hand", "rounds": "self", "own": "self hand name", "put": "self ladder",
+                               "drop": "self hand name", "stop": "self hand", "enter": "self hand", "copied": "self",
+                               "__len__": None, "__eq__": None},
 }
 PROPERTIES = {("sums", "Sum"): "modulus constant is_constant", ("spaces", "Space"): "modulus dimension",
               ("spaces", "Relations"): "modulus dimension", ("plans", "Plan"): "modulus",
               ("doors", "Doors"): "modulus", ("parts", "Part"): "doors", ("ladders", "Ladder"): "doors relations",
-              ("demands", "Demands"): "doors"}
+              ("demands", "Demands"): "doors", ("deals", "Deal"): "doors steps_needed",
+              ("histories", "History"): "modulus"}
 
 
 def parameters(function):
