@@ -10,7 +10,17 @@ from quietsums.watches import learned
 
 def first_leak(plan, book):
     """Return the index of the first entry whose group learns more, and the first sum of it, or None."""
-    require_book(plan, book)
+    require_book(plan.modulus, plan.hands(), plan.own_names(), book)
+    return leak_of(plan, book)
+
+
+def is_quiet(plan, book):
+    """Tell whether no group of the book learns more than it may."""
+    return first_leak(plan, book) is None
+
+
+def leak_of(plan, book):
+    """Return the first leak of a plan by a list of groups and sums, which need not be private numbers of the plan."""
     for index, (group, sums) in enumerate(book):
         allowed = Space(plan.modulus, sums)
         for total in learned(plan, listening(plan, group)).basis():
@@ -19,19 +29,13 @@ def first_leak(plan, book):
     return None
 
 
-def is_quiet(plan, book):
-    """Tell whether no group of the book learns more than it may."""
-    return first_leak(plan, book) is None
-
-
-def require_book(plan, book):
-    """Raise InvalidBook unless the value is a book for the plan."""
+def require_book(modulus, hands, names, book):
+    """Raise InvalidBook unless the value is a book for these hands and these private numbers."""
     if not is_list(book):
         raise InvalidBook(None)
-    hands = plan.hands()
-    private = {name: True for name in plan.own_names()}
+    private = {name: True for name in names}
     for position, entry in enumerate(book):
-        if not _is_entry(plan.modulus, hands, private, entry):
+        if not _is_entry(modulus, hands, private, entry):
             raise InvalidBook(position)
 
 

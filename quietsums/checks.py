@@ -1,6 +1,6 @@
 """Questions about plain values: integers, numbers, names, worlds, shifts, hands and groups."""
 
-from quietsums.errors import InvalidGroup, InvalidHands, InvalidModulus, InvalidNames
+from quietsums.errors import InvalidGroup, InvalidHands, InvalidModulus, InvalidNames, InvalidWorld, MissingNumber
 
 PRIMES = (2, 3, 5, 7, 11, 13)
 LETTERS = "abcdefghijklmnopqrstuvwxyz"
@@ -79,6 +79,15 @@ def require_names(names):
     for position, name in enumerate(names):
         if not is_name(name):
             raise InvalidNames(position)
+
+
+def require_numbers(modulus, names, world):
+    """Raise an error unless the value is a world in which all of the names have numbers."""
+    if not is_world(modulus, world):
+        raise InvalidWorld(world)
+    for name in names:
+        if name not in world:
+            raise MissingNumber(name)
 
 
 def require_hands(hands, most, least=1):

@@ -16,6 +16,7 @@ class Deal:
         self._doors = doors
         self._drawn = list(drawn)
         self._numbers = list(numbers)
+        self._steps_needed = steps_for(len(doors.hands()), len(numbers), len(drawn))
 
     @property
     def doors(self):
@@ -25,7 +26,7 @@ class Deal:
     @property
     def steps_needed(self):
         """The number of steps that are enough to make a part from the deal."""
-        return steps_for(len(self._doors.hands()), len(self._numbers), len(self._drawn))
+        return self._steps_needed
 
     def drawn(self):
         """Return the list of the drawn names."""

@@ -1,16 +1,12 @@
 """Runs: the numbers of all names in a world, and whether what is wanted holds."""
 
-from quietsums.checks import is_integer, is_world
-from quietsums.errors import InvalidStep, InvalidWorld, MissingNumber
+from quietsums.checks import is_integer, require_numbers
+from quietsums.errors import InvalidStep
 
 
 def run(plan, world):
     """Return a dict from all names, sorted, to their numbers in a world for the base names."""
-    if not is_world(plan.modulus, world):
-        raise InvalidWorld(world)
-    for name in _base_names(plan):
-        if name not in world:
-            raise MissingNumber(name)
+    require_numbers(plan.modulus, _base_names(plan), world)
     return {name: plan.meaning(name).at(world) for name in sorted(plan.names())}
 
 

@@ -1,7 +1,7 @@
 """Watches: what some seats hear together, and which sums of private numbers they learn."""
 
-from quietsums.checks import is_integer, is_known, is_list, is_shift, is_world
-from quietsums.errors import InvalidWatch, InvalidWorld, MissingNumber
+from quietsums.checks import is_integer, is_known, is_list, is_shift, require_numbers
+from quietsums.errors import InvalidWatch
 from quietsums.shifts import is_named_combination, is_separation, named_combination, separation
 from quietsums.spaces import Space
 from quietsums.sums import require_sum_of
@@ -62,8 +62,8 @@ def is_hiding_shift(plan, watch, target, value):
 def same_frequencies(plan, watch, numbers, others):
     """Tell whether a watch observes the same, equally often, for two assignments of private numbers."""
     require_watch(plan, watch)
-    _require_private_numbers(plan, numbers)
-    _require_private_numbers(plan, others)
+    require_numbers(plan.modulus, plan.own_names(), numbers)
+    require_numbers(plan.modulus, plan.own_names(), others)
     return all([total.at(numbers) == total.at(others) for total in learned(plan, watch).basis()])
 
 
@@ -102,12 +102,3 @@ def _is_seat(hands, last, value):
     if not is_integer(value[1]) or not is_integer(value[2]):
         return False
     return 0 <= value[1] <= value[2] <= last
-
-
-def _require_private_numbers(plan, numbers):
-    """Raise an error unless the value is a world for all private numbers of the plan."""
-    if not is_world(plan.modulus, numbers):
-        raise InvalidWorld(numbers)
-    for name in plan.own_names():
-        if name not in numbers:
-            raise MissingNumber(name)

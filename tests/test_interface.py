@@ -28,6 +28,16 @@ FUNCTIONS = {
              "cores": "demands group target", "keeping_sets": "demands secrets", "implied": "demands"},
     "making": {"size_of": "ladder", "dealt": "ladder", "made_from": "deal", "part_for": "ladder"},
     "drawers": {"drawing_bar": "ladder group", "made_by": "ladder group", "least_drawers": "ladder"},
+    "mending": {"learned_of": "history watch", "public": "history", "tellable": "history group",
+                "least_tellers": "history target", "loss": "history target", "is_loss": "history target value",
+                "expressed": "history target", "hand_on": "history hand name target", "fewest_sittings": "history target"},
+    "wrong": {"copy_of": "plan error hand name", "heard_of": "plan error name", "check": "plan error group",
+              "explanation": "plan error group", "is_check": "plan error group value",
+              "is_explanation": "plan error group value", "unnoticed": "plan positions group"},
+    "trees": {"depth": "tree way numbers", "learned_on": "tree way group", "parting_way": "tree group numbers others",
+              "tree_leak": "tree book"},
+    "texts": {"plan_text": "plan", "part_text": "part", "demands_text": "demands", "read_plan": "text", "read_part": "text",
+              "read_demands": "text"},
 }
 SPACE_METHODS = {"__init__": "self modulus sums", "basis": "self", "names": "self", "reduced": "self target",
                  "joined": "self other", "shared": "self other", "within": "self other", "without": "self names",
@@ -60,12 +70,16 @@ CLASSES = {
                                "held": "self hand", "rounds": "self", "own": "self hand name", "put": "self ladder",
                                "drop": "self hand name", "stop": "self hand", "enter": "self hand", "copied": "self",
                                "__len__": None, "__eq__": None},
+    ("trees", "Tree"): {"__init__": "self modulus hands node", "hands": "self", "ways": "self", "plan": "self way",
+                        "__eq__": None},
+    ("workshop", "Workshop"): {"__init__": "self modulus", "history": "self", "execute": "self command",
+                               "execute_all": "self commands", "log": "self"},
 }
 PROPERTIES = {("sums", "Sum"): "modulus constant is_constant", ("spaces", "Space"): "modulus dimension",
               ("spaces", "Relations"): "modulus dimension", ("plans", "Plan"): "modulus",
               ("doors", "Doors"): "modulus", ("parts", "Part"): "doors", ("ladders", "Ladder"): "doors relations",
               ("demands", "Demands"): "doors", ("deals", "Deal"): "doors steps_needed",
-              ("histories", "History"): "modulus"}
+              ("histories", "History"): "modulus", ("trees", "Tree"): "modulus", ("workshop", "Workshop"): ""}
 
 
 def parameters(function):
