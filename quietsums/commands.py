@@ -1,8 +1,7 @@
 """Commands: strings that say what to do in a workshop, taken apart into tuples."""
 
 from quietsums.checks import is_name
-from quietsums.errors import InvalidText
-from quietsums.sums import Sum
+from quietsums.sums import sum_or_none
 
 LENGTHS = {"enter": 1, "stop": 1, "own": 2, "drop": 2}
 
@@ -48,15 +47,8 @@ def _hands(text):
     return hands
 
 
-def _sum_or_none(modulus, text):
-    try:
-        return Sum.parse(modulus, text)
-    except InvalidText:
-        return None
-
-
 def _only_sum(modulus, text):
-    total = _sum_or_none(modulus, text)
+    total = sum_or_none(modulus, text)
     return None if total is None else (total,)
 
 
@@ -64,7 +56,7 @@ def _given(modulus, text):
     """Return the tuple of a hand, a name and a sum, between the latter of which ` = ` stands, or None."""
     head, _, end = text.partition(" = ")
     names = _names(head, 2)
-    total = _sum_or_none(modulus, end)
+    total = sum_or_none(modulus, end)
     return None if names is None or total is None else (*names, total)
 
 
@@ -72,7 +64,7 @@ def _hands_and_sum(modulus, text):
     """Return the tuple of a list of hands and a sum, between which ` : ` stands, or None."""
     head, _, end = text.partition(" : ")
     hands = _hands(head)
-    total = _sum_or_none(modulus, end)
+    total = sum_or_none(modulus, end)
     return None if hands is None or total is None else (hands, total)
 
 
@@ -93,5 +85,5 @@ def _entry(modulus, text):
     name, _, rest = text.partition(" : ")
     head, _, end = rest.partition(" = ")
     holders = _hands(head)
-    total = _sum_or_none(modulus, end)
+    total = sum_or_none(modulus, end)
     return None if not is_name(name) or holders is None or total is None else (name, holders, total)

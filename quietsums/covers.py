@@ -3,7 +3,7 @@
 from quietsums.checks import is_integer, is_list
 from quietsums.errors import InvalidCount, TooMany
 from quietsums.picking import picked
-from quietsums.shifts import moved, separation
+from quietsums.shifts import is_unmoved, moved, separation
 from quietsums.watches import is_base_shift, require_private, require_watch, view
 
 MOST_SEATS = 24
@@ -90,7 +90,7 @@ def is_cover(plan, seats, target, many, value):
     if not is_list(value) or not all([is_base_shift(plan, shift) for shift in value]):
         return False
     told = view(plan, [])
-    if not all([moved(target, shift) != 0 and _is_unmoved(told, shift) for shift in value]):
+    if not all([moved(target, shift) != 0 and is_unmoved(told, shift) for shift in value]):
         return False
     single = [view(plan, [seat]) for seat in seats]
     hidden = [_unmoved_seats(single, shift) for shift in value]
@@ -120,14 +120,9 @@ def _set_of(indexes):
     return sum([1 << at for at in indexes])
 
 
-def _is_unmoved(space, shift):
-    """Tell whether a shift moves no sum of a space."""
-    return all([moved(total, shift) == 0 for total in space.basis()])
-
-
 def _unmoved_seats(spaces, shift):
     """Return the set of the seats of which a shift moves nothing that they see."""
-    return _set_of([at for at, space in enumerate(spaces) if _is_unmoved(space, shift)])
+    return _set_of([at for at, space in enumerate(spaces) if is_unmoved(space, shift)])
 
 
 def _is_hidden(mask, hidden):

@@ -14,7 +14,7 @@ class Reach:
         doors = ladder.doors
         self._modulus = doors.modulus
         self._bounds = {hand: _space_with(ladder, drawers, hand) for hand in doors.hands()}
-        self._spaces = {hand: Space.everything(doors.modulus, ins_of(doors, hand)) for hand in doors.hands()}
+        self._reached = {hand: Space.everything(doors.modulus, ins_of(doors, hand)) for hand in doors.hands()}
         self._moves = []
         before = -1
         while before < len(self._moves):
@@ -25,7 +25,7 @@ class Reach:
 
     def space(self, hand):
         """Return the reach of a hand."""
-        return self._spaces[hand]
+        return self._reached[hand]
 
     def moves(self):
         """Return the list of the moves, in a sequence in which each giver has what it gives."""
@@ -33,7 +33,7 @@ class Reach:
 
     def parted(self, hands, target):
         """Return a dict from some hands to sums in their reaches that add up to the target."""
-        places = [(hand, total) for hand in hands for total in self._spaces[hand].basis()]
+        places = [(hand, total) for hand in hands for total in self._reached[hand].basis()]
         numbers = multiples(self._modulus, [total.weights() for _, total in places], target.weights())
         found = {hand: Sum(self._modulus, {}) for hand in hands}
         for (hand, total), number in zip(places, numbers):
@@ -41,9 +41,10 @@ class Reach:
         return found
 
     def _pass_on(self, giver, taker):
-        for total in self._spaces[giver].shared(self._bounds[taker]).basis():
-            if total not in self._spaces[taker]:
-                self._spaces[taker] = self._spaces[taker].joined(Space(self._modulus, [total]))
+        possible = self._reached[giver].shared(self._bounds[taker])
+        for total in possible.basis():
+            if total not in self._reached[taker]:
+                self._reached[taker] = self._reached[taker].joined(Space(self._modulus, [total]))
                 self._moves.append((giver, taker, total))
 
 

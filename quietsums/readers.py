@@ -8,7 +8,7 @@ from quietsums.errors import Contradiction, InvalidDemand, InvalidDoors, Invalid
 from quietsums.errors import MissingName, TiedIns, TooMany
 from quietsums.parts import InnerCourse, Part
 from quietsums.plans import Plan
-from quietsums.sums import Sum
+from quietsums.sums import sum_or_none
 
 
 class TextReader:
@@ -44,10 +44,7 @@ class TextReader:
 
     def sum_of(self, text):
         """Return the sum with this text, or None."""
-        try:
-            return Sum.parse(self._modulus, text)
-        except InvalidText:
-            return None
+        return sum_or_none(self._modulus, text)
 
     def _takes(self, line):
         """Take the next line, and tell whether it may stand there."""

@@ -61,9 +61,12 @@ def separation(space, target):
 def is_separation(space, target, value):
     """Tell whether a value is a shift that moves the target and no sum of the space."""
     require_sum(space.modulus, target)
-    if not is_shift(space.modulus, value) or moved(target, value) == 0:
-        return False
-    return all([moved(total, value) == 0 for total in space.basis()])
+    return is_shift(space.modulus, value) and moved(target, value) != 0 and is_unmoved(space, value)
+
+
+def is_unmoved(space, shift):
+    """Tell whether a shift moves no sum of a space."""
+    return all([moved(total, shift) == 0 for total in space.basis()])
 
 
 def moved(target, shift):

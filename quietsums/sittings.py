@@ -1,7 +1,7 @@
 """Sittings: hands that sit in single rounds of a history, and what few of them learn together."""
 
 from quietsums.picking import picked
-from quietsums.shifts import moved, separation
+from quietsums.shifts import is_unmoved, separation
 from quietsums.spaces import Space
 
 MOST_AT_ONCE = 3
@@ -13,11 +13,11 @@ class Sittings:
     def __init__(self, history, heard, target):
         self._heard = heard
         self._target = target
-        self._spaces = {}
+        self._seen = {}
         for at, scene in enumerate(history.scenes()):
             for many in range(1, MOST_AT_ONCE + 1):
                 for group in picked(scene.hands(), many):
-                    self._spaces[(at, group)] = scene.space(group)
+                    self._seen[(at, group)] = scene.space(group)
         self._hidden = []
 
     def learn(self, chosen):
@@ -26,12 +26,12 @@ class Sittings:
         for hidden in self._hidden:
             if all([place in hidden for place in places]):
                 return False
-        sums = [total for place in places for total in self._spaces[place].basis()]
+        sums = [total for place in places for total in self._seen[place].basis()]
         shift = separation(self._heard.joined(Space(self._heard.modulus, sums)), self._target)
         if shift is None:
             return True
         # It moves nothing that everybody hears. So it hides the target from more groups than these.
-        self._hidden.append({place: True for place, space in self._spaces.items() if _is_unmoved(space, shift)})
+        self._hidden.append({place: True for place, space in self._seen.items() if is_unmoved(space, shift)})
         return False
 
 
@@ -46,8 +46,3 @@ def _groups_by_rounds(chosen):
     for at, hand in chosen:
         groups[at] = groups.get(at, ()) + (hand,)
     return [(at, group) for at, group in groups.items()]
-
-
-def _is_unmoved(space, shift):
-    """Tell whether a shift moves no sum of a space."""
-    return all([moved(total, shift) == 0 for total in space.basis()])

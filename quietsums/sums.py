@@ -118,6 +118,14 @@ class Sum:
         return f"Sum({self._modulus}, {self._weights!r}, {self._constant})"
 
 
+def sum_or_none(modulus, text):
+    """Return the sum with this text, or None."""
+    try:
+        return Sum.parse(modulus, text)
+    except InvalidText:
+        return None
+
+
 def is_sum(modulus, value):
     """Tell whether a value is a Sum of the modulus."""
     return isinstance(value, Sum) and value.modulus == modulus
