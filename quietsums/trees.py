@@ -1,11 +1,10 @@
 """Trees of plans: how it goes on depends on the values of told names."""
 
 from quietsums.books import leak_of, require_book
-from quietsums.checks import is_integer, is_known, is_list, is_tuple_of, require_group, require_hands
-from quietsums.checks import require_modulus, require_numbers
+from quietsums.checks import is_integer, is_known, is_list, is_tuple_of, require_group, require_numbers
 from quietsums.errors import Contradiction, InvalidNode, InvalidStep, InvalidWay, TooMany
 from quietsums.groups import listening
-from quietsums.plans import MOST_HANDS, Plan
+from quietsums.plans import Plan
 from quietsums.spaces import Relations, Space
 from quietsums.sums import Sum
 from quietsums.watches import learned
@@ -18,10 +17,9 @@ class Tree:
     """A modulus, hands, and a first node: steps, a told name, and what follows each of its values. It never changes."""
 
     def __init__(self, modulus, hands, node):
-        require_modulus(modulus)
-        require_hands(hands, MOST_HANDS)
+        root = Plan(modulus, hands, [])
         grown = Growth(modulus)
-        self._node = grown.copied(Plan(modulus, hands, []), (), (), node)
+        self._node = grown.copied(root, (), (), node)
         if grown.many() > MOST_NODES:
             raise TooMany(MOST_NODES)
         self._modulus = modulus
@@ -50,7 +48,6 @@ class Tree:
 
     def turns(self, way):
         """Return the list of the tuples of a name that decides on a way, and the number that it has to have."""
-        self._require_way(way)
         return list(zip(self._turns[way], way))
 
     def own_names(self):
@@ -132,7 +129,6 @@ def depth(tree, way, numbers):
 def learned_on(tree, way, group):
     """Return the space of the sums of private numbers that a group learns on a way."""
     plan = tree.plan(way)
-    require_group(group, tree.hands())
     return learned(plan, listening(plan, group))
 
 

@@ -102,6 +102,8 @@ class Deals(unittest.TestCase):
         self.assertNotEqual(Deal(pair_doors(), ["s", "r"], numbers), Deal(pair_doors(), ["r", "s"], numbers))
         other = Doors(3, ["b", "a"], {"x": ["a"]}, {"y": ["b"], "z": ["a"]})
         self.assertNotEqual(deal, Deal(other, ["r"], [*numbers, ("z", "a", R)]))
+        other = Doors(3, ["a", "b"], {"x": ["a"], "z": ["a"]}, {"y": ["b"]})
+        self.assertNotEqual(deal, Deal(other, ["r"], numbers))
         self.assertEqual(deal, Deal(Doors(3, ["b", "a"], {"x": ["a"]}, {"y": ["b"]}), ["r"], numbers))
         for value in (None, 1, "deal", [], numbers, deal.form(), (deal.doors, ["r"], numbers)):
             self.assertFalse(deal == value)

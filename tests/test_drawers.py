@@ -168,6 +168,14 @@ class MadeBy(unittest.TestCase):
         self.assertEqual(form_of(part), ladder)
         self.assertEqual(drawing_hands(part), {"c"})
 
+    def test_parts_of_a_sum_in_different_reaches(self):
+        # Together with a, b comes to know z, and c comes to know y. Without a they know y + z together.
+        doors = Doors(3, ["a", "b", "c", "d"], {"y": ["d"], "z": ["d"]}, {})
+        ladder = least_ladder(Demands(doors, [], [(["a", "b"], Z), (["a", "c"], Y), (["b", "c"], Y + Z)]))
+        self.assertIsNone(first_bar(ladder, ["a"]))
+        part = made_by_drawers(ladder, ["a"])
+        self.assertEqual([form_of(part) == ladder, drawing_hands(part)], [True, {"a"}])
+
     def test_all_draw(self):
         for seed in range(40):
             ladder = drawers_ladder(seed)

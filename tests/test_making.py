@@ -205,6 +205,16 @@ class PartFor(unittest.TestCase):
         # It is dealt all the same.
         self.assertEqual(dealt(ladder).form(), ladder)
 
+    def test_the_size_decides(self):
+        # As above, but one out equals another one: so less is drawn, while the size is the same.
+        doors = Doors(5, HANDS, {}, {f"y{at}": ["a"] for at in range(7)})
+        must = [(["d", "b", "c1"], Sum(5, {f"y{at}": 1})) for at in range(6)]
+        ladder = least_ladder(Demands(doors, [Sum.of(5, y6=1, y0=4)], must))
+        self.assertEqual(size_of(ladder), (25, 19))
+        fails(self, TooMany, part_for, ladder, limit=600)
+        self.assertLessEqual(dealt(ladder).steps_needed, 600)
+        self.assertEqual(form_of(made_from(dealt(ladder))), ladder)
+
     def test_least_of_gains(self):
         for ladder in ladders()[:40]:
             self.assertEqual(form_of(part_for(least_ladder(Demands.of(ladder)))), ladder)

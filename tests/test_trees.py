@@ -340,6 +340,9 @@ class OnWays(unittest.TestCase):
         fails(self, MissingNumber, parting_way, tree, [], {}, None, name="x")
         fails(self, MissingNumber, parting_way, tree, [], {"x": 0}, None, name="y")
         fails(self, MissingNumber, parting_way, tree, [], full, {"y": 1}, name="x")
+        # Also numbers of which nobody learns anything are asked for.
+        fails(self, MissingNumber, parting_way, tree, [], full, {"x": 0}, name="y")
+        fails(self, InvalidWorld, parting_way, Tree(2, ["a"], ([],)), [], {}, {"x": 2}, value={"x": 2})
         fails(self, InvalidWay, learned_on, tree, (5,), ["c"], value=(5,))
 
 
