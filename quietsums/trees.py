@@ -70,8 +70,8 @@ class Growth:
     def __init__(self, modulus):
         self._modulus = modulus
         self._many = 0
-        self._plans = {}
-        self._turns = {}
+        self._ends = {}
+        self._deciders = {}
 
     def many(self):
         """Return the number of nodes."""
@@ -79,11 +79,11 @@ class Growth:
 
     def plans(self):
         """Return a dict from the ways, sorted, to their plans."""
-        return dict(self._plans)
+        return dict(self._ends)
 
     def turns(self):
         """Return a dict from the ways, sorted, to the tuples of the names that decide."""
-        return dict(self._turns)
+        return dict(self._deciders)
 
     def copied(self, plan, names, path, node):
         """Return a copy of a node below a plan, after names that decided, or raise an error unless it is one."""
@@ -111,8 +111,8 @@ class Growth:
 
     def _ended(self, plan, names, way, copy):
         """Keep what belongs to a way that ends here, and return the copy of what ends it."""
-        self._plans[way] = plan
-        self._turns[way] = names
+        self._ends[way] = plan
+        self._deciders[way] = names
         return copy
 
 
